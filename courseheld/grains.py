@@ -6,10 +6,18 @@ grains, so sums and comparisons are exact, and there is one zero only.
 
 GRAIN_BITS = 1074
 
+# How many of a double's 64 bits stand below its exponent.
+FRACTION_BITS = 52
+
 # By kind: how many bits a number has, the lowest bit of the denormal numbers and that of the greatest.
 DIGITS = (11, 24, 53)
 LOWEST_BIT = (1050, 925, 0)
 TOP_BIT = (1079, 1178, 2045)
+
+
+def is_kind(kind):
+    """Whether there's such a kind."""
+    return 0 <= kind < len(DIGITS)
 
 
 def one():
@@ -114,12 +122,23 @@ def held_between(x, y, z):
 
 def from_double(bits):
     """The number that a double's 64 bits tell, None if it isn't finite."""
-    exponent = (bits >> 52) & 2047
+    exponent = (bits >> FRACTION_BITS) & 2047
     if exponent == 2047:
         return None
-    size = bits & ((1 << 52) - 1)
+    size = bits & ((1 << FRACTION_BITS) - 1)
     if exponent > 0:
-        size = (size + (1 << 52)) << (exponent - 1)
+        size = (size + (1 << FRACTION_BITS)) << (exponent - 1)
     if bits >> 63 == 1:
         return -size
     return size
+
+
+def to_double(x):
+    """The 64 bits of the double that the number x is."""
+    size = abs(x)
+    sign = 1 << 63 if x < 0 else 0
+    exponent = max(0, size.bit_length() - FRACTION_BITS)
+    if exponent == 0:
+        return sign + size
+    # A normal number's highest bit isn't among the 52: it is told by an exponent above 0.
+    return sign + (exponent << FRACTION_BITS) + (size >> (exponent - 1)) - (1 << FRACTION_BITS)

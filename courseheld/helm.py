@@ -1,10 +1,7 @@
 """The interface: a list of calls in, a list of their answers out."""
 
+from courseheld.alone import answer_of_round, answer_of_whole
 from courseheld.store import Store
-
-
-class CallNotThere(Exception):
-    """A call that this program doesn't answer."""
 
 
 class Reader:
@@ -32,7 +29,12 @@ class Reader:
         return self.told[start:start + size]
 
 
-def answer_of_build(store, reader):
+def read_open(store, reader):
+    """What the call open answers."""
+    return store.begin()
+
+
+def read_build(store, reader):
     """What the call build answers."""
     n = reader.number()
     blocks = reader.row()
@@ -40,7 +42,24 @@ def answer_of_build(store, reader):
     return store.build(n, blocks, constants)
 
 
-def answer_of_run(store, reader):
+def read_fleet(store, reader):
+    """What the call fleet answers."""
+    return store.fleet(reader.number())
+
+
+def read_reset(store, reader):
+    """What the call reset answers."""
+    return store.reset(reader.number())
+
+
+def read_tick(store, reader):
+    """What the call tick answers."""
+    n = reader.number()
+    records = reader.row()
+    return store.tick(n, records)
+
+
+def read_run(store, reader):
     """What the call run answers."""
     craft = reader.number()
     n = reader.number()
@@ -48,29 +67,75 @@ def answer_of_run(store, reader):
     return store.run(craft, n, records)
 
 
-def answer_of_tick(store, reader):
-    """What the call tick answers."""
+def read_signal(store, reader):
+    """What the call signal answers."""
+    craft = reader.number()
+    block = reader.number()
+    return store.signal(craft, block)
+
+
+def read_seen(store, reader):
+    """What the call seen answers."""
+    craft = reader.number()
+    block = reader.number()
+    return store.seen(craft, block)
+
+
+def read_state(store, reader):
+    """What the call state answers."""
+    craft = reader.number()
     n = reader.number()
-    records = reader.row()
-    return store.tick(n, records)
+    return store.state(craft, n)
+
+
+def read_put(store, reader):
+    """What the call put answers."""
+    craft = reader.number()
+    n = reader.number()
+    doubles = reader.row()
+    return store.put(craft, n, doubles)
+
+
+def read_round(store, reader):
+    """What the call round answers; it needs no store."""
+    kind = reader.number()
+    op = reader.number()
+    x = reader.number()
+    y = reader.number()
+    z = reader.number()
+    return answer_of_round(kind, op, x, y, z)
+
+
+def read_whole(store, reader):
+    """What the call whole answers; it needs no store."""
+    kind = reader.number()
+    how = reader.number()
+    width = reader.number()
+    x = reader.number()
+    return answer_of_whole(kind, how, width, x)
+
+
+# By the number of a call.
+CALLS = (
+    read_open,
+    read_build,
+    read_fleet,
+    read_reset,
+    read_tick,
+    read_run,
+    read_signal,
+    read_seen,
+    read_state,
+    read_put,
+    read_round,
+    read_whole,
+)
 
 
 def next_answer(store, reader):
     """What the next call answers."""
-    call = reader.number()
-    if call == 0:
-        return store.begin()
-    if call == 1:
-        return answer_of_build(store, reader)
-    if call == 2:
-        return store.fleet(reader.number())
-    if call == 3:
-        return store.reset(reader.number())
-    if call == 4:
-        return answer_of_tick(store, reader)
-    if call == 5:
-        return answer_of_run(store, reader)
-    raise CallNotThere(f"there is no call {call}")
+    read = CALLS[reader.number()]
+    return read(store, reader)
 
 
 def answers(calls):

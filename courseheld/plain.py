@@ -1,7 +1,11 @@
 """The rows of the table that look only at what they take in this tick, records among it."""
 
-from courseheld.grains import difference, from_whole, fused, held, held_between, one, product, quotient, root, total
+from courseheld.grains import difference, from_whole, fused, held, held_between, one, quotient, total
+from courseheld.steps import stepped
 from courseheld.wholes import held_to_width, put_whole, read_whole, to_whole
+
+# The row that is op 0 of the call round.
+FIRST_STEP = 2
 
 
 def truth(true):
@@ -21,49 +25,9 @@ def constant(turn):
     return turn.p
 
 
-def add_two(turn):
-    """Row 2."""
-    return total(turn.kind, turn.a, turn.b)
-
-
-def subtract(turn):
-    """Row 3."""
-    return difference(turn.kind, turn.a, turn.b)
-
-
-def multiply(turn):
-    """Row 4."""
-    return product(turn.kind, turn.a, turn.b)
-
-
-def divide(turn):
-    """Row 5."""
-    return quotient(turn.kind, turn.a, turn.b)
-
-
-def take_root(turn):
-    """Row 6."""
-    return root(turn.kind, turn.a)
-
-
-def multiply_add(turn):
-    """Row 7."""
-    return fused(turn.kind, turn.a, turn.b, turn.c)
-
-
-def multiply_subtract(turn):
-    """Row 8."""
-    return fused(turn.kind, turn.a, turn.b, -turn.c)
-
-
-def subtract_product(turn):
-    """Row 9."""
-    return fused(turn.kind, -turn.a, turn.b, turn.c)
-
-
-def negate_multiply_subtract(turn):
-    """Row 10."""
-    return fused(turn.kind, -turn.a, turn.b, -turn.c)
+def reckon(turn):
+    """Rows 2 to 10, which are the ops of the call round in their order."""
+    return stepped(turn.block.what - FIRST_STEP, turn.kind, turn.a, turn.b, turn.c)
 
 
 def lesser(turn):
@@ -184,15 +148,15 @@ def sign(turn):
 PLAIN_ROWS = {
     0: sensor,
     1: constant,
-    2: add_two,
-    3: subtract,
-    4: multiply,
-    5: divide,
-    6: take_root,
-    7: multiply_add,
-    8: multiply_subtract,
-    9: subtract_product,
-    10: negate_multiply_subtract,
+    2: reckon,
+    3: reckon,
+    4: reckon,
+    5: reckon,
+    6: reckon,
+    7: reckon,
+    8: reckon,
+    9: reckon,
+    10: reckon,
     11: lesser,
     12: greater,
     13: without_sign,

@@ -1,7 +1,7 @@
 """Schemes: whether blocks are as told, and what is kept of them."""
 
-from courseheld.grains import from_double, one, to_kind
-from courseheld.wholes import size_of
+from courseheld.grains import from_double, is_kind, one, to_kind
+from courseheld.wholes import is_how, is_width, size_of
 
 MOST_BLOCKS = 96
 RECORD_SIZE = 256
@@ -40,8 +40,10 @@ CONSTANTS = {
 }
 
 SENSOR = 0
+RELAY = 22
 FILTER = 30
 KEPT = 32
+KALMAN = 33
 CURVE = 34
 TO_WHOLE = 35
 RUDDER = 36
@@ -99,7 +101,7 @@ def all_below(numbers, end):
 
 def place_as_told(place, width):
     """Whether a width is one, and the place one where a whole number of it may stand."""
-    return 0 <= width <= 7 and 0 <= place < RECORD_SIZE and place % size_of(width) == 0
+    return is_width(width) and 0 <= place < RECORD_SIZE and place % size_of(width) == 0
 
 
 def rest_as_told(numbers):
@@ -108,7 +110,7 @@ def rest_as_told(numbers):
     if what in (SENSOR, RUDDER) and not place_as_told(place_of(numbers), width_of(numbers)):
         return False
     if what in (TO_WHOLE, RUDDER):
-        return 0 <= numbers[P] <= 3
+        return is_how(numbers[P])
     if what == CURVE:
         return 1 <= numbers[B] <= MOST_POINTS
     return True
@@ -122,7 +124,7 @@ def rising(given):
 def given_as_told(block):
     """Whether the constants, rounded to the block's kind, stand to each other as the row tells."""
     what = block.what
-    if what in (15, 22):
+    if what in (15, RELAY):
         return block.p <= block.q
     if what in (16, 17, 37):
         return block.p >= 0
@@ -130,7 +132,7 @@ def given_as_told(block):
         return 0 <= block.p <= one()
     if what == 19:
         return block.q <= 0 <= block.r
-    if what == 33:
+    if what == KALMAN:
         return block.p >= 0 and block.q >= 0
     if what == CURVE:
         return rising(block.given)
@@ -139,7 +141,7 @@ def given_as_told(block):
 
 def told_block(numbers, n, constants):
     """The block that eight numbers tell in a scheme of n blocks, None if it isn't as told."""
-    if not 0 <= numbers[WHAT] < len(SOURCES) or not 0 <= numbers[KIND] <= 2:
+    if not 0 <= numbers[WHAT] < len(SOURCES) or not is_kind(numbers[KIND]):
         return None
     if not all_below(sources_of(numbers), n) or not rest_as_told(numbers):
         return None

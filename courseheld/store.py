@@ -1,25 +1,12 @@
 """A store: one scheme, a fleet of craft, and the calls on them."""
 
-from courseheld.craft import Craft, tick_of
+from courseheld.craft import Craft, craft_put, state_of, tick_of
+from courseheld.grains import to_double
+from courseheld.refusals import no_scheme, not_as_told, not_in_scheme, out_of_range
 from courseheld.scheme import MOST_BLOCKS, RECORD_SIZE, told_scheme
 
 MOST_CRAFT = 64
 MOST_TICKS = 4096
-
-
-def out_of_range():
-    """The refusal of a number that isn't among those told."""
-    return [-2]
-
-
-def no_scheme():
-    """The refusal where there's no scheme."""
-    return [-3]
-
-
-def not_as_told():
-    """The refusal of a block that isn't as told, or of a number that isn't finite."""
-    return [-5]
 
 
 def record_at(records, i):
@@ -89,6 +76,57 @@ class Store:
         for i in range(n):
             answer.extend(tick_of(self.crafts[craft], self.blocks, record_at(records, i)))
         return answer
+
+    def signal(self, craft, block):
+        """The block's signal."""
+        refusal = self.block_refusal(craft, block)
+        if refusal is not None:
+            return refusal
+        return [0, to_double(self.crafts[craft].signals[block])]
+
+    def seen(self, craft, block):
+        """The block's least signal and its greatest behind all ticks since the craft was as at first or put."""
+        refusal = self.block_refusal(craft, block)
+        if refusal is not None:
+            return refusal
+        one_craft = self.crafts[craft]
+        if not one_craft.ticked:
+            return not_in_scheme()
+        return [0, to_double(one_craft.least[block]), to_double(one_craft.most[block])]
+
+    def state(self, craft, n):
+        """The signal, s and t of each of the n blocks."""
+        refusal = self.blocks_refusal(craft, n)
+        if refusal is not None:
+            return refusal
+        return [n] + state_of(self.crafts[craft])
+
+    def put(self, craft, n, doubles):
+        """The craft has the signals, s and t that the doubles tell of the n blocks, and nothing is seen of it yet."""
+        refusal = self.blocks_refusal(craft, n)
+        if refusal is not None:
+            return refusal
+        craft_then = craft_put(self.blocks, doubles)
+        if craft_then is None:
+            return not_as_told()
+        self.crafts[craft] = craft_then
+        return [n]
+
+    def block_refusal(self, craft, block):
+        """Why nothing can be told of the craft's block, None if it can."""
+        if not self.is_craft(craft) or not 0 <= block < MOST_BLOCKS:
+            return out_of_range()
+        if self.blocks is None:
+            return no_scheme()
+        return None if block < len(self.blocks) else not_in_scheme()
+
+    def blocks_refusal(self, craft, n):
+        """Why n blocks of the craft can't be told or put, None if they can."""
+        if not self.is_craft(craft) or not 1 <= n <= MOST_BLOCKS:
+            return out_of_range()
+        if self.blocks is None:
+            return no_scheme()
+        return None if n == len(self.blocks) else not_in_scheme()
 
     def is_craft(self, craft):
         """Whether there's a craft of this number."""

@@ -3,6 +3,16 @@
 from courseheld.grains import GRAIN_BITS, held
 
 
+def is_how(how):
+    """Whether there's such a way to a whole number."""
+    return 0 <= how <= 3
+
+
+def is_width(width):
+    """Whether there's such a width."""
+    return 0 <= width <= 7
+
+
 def to_whole(how, x):
     """The number x to a whole number: how 0 to the nearest, 1 down, 2 up, 3 towards 0."""
     below = x >> GRAIN_BITS

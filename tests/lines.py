@@ -14,6 +14,8 @@ NEXT = (2.0 ** -10, 2.0 ** -23, 2.0 ** -52)
 
 INFINITE = 0x7FF << 52
 NO_NUMBER = (0x7FF << 52) + 1
+SIGN = 1 << 63
+NOT_FINITE = (INFINITE, INFINITE + SIGN, NO_NUMBER, NO_NUMBER + SIGN, (1 << 64) - 1, SIGN - 1, 0x7FF8 << 48)
 BELOW_RANGE = -2147483648
 ABOVE_RANGE = 2147483647
 
@@ -27,6 +29,15 @@ def bits(x):
     return struct.unpack("<Q", struct.pack("<d", x))[0]
 
 
+def pattern(x):
+    """The 64 bits of a float; a whole number stands for bits as they are."""
+    return x if isinstance(x, int) else bits(x)
+
+
+def patterns(*numbers):
+    return [pattern(x) for x in numbers]
+
+
 def block(what, kind, **given):
     """A block's eight numbers, with junk in whatever isn't given."""
     return [what, kind] + [given.get(letter, JUNK[letter]) for letter in "abcpqr"]
@@ -35,8 +46,20 @@ def block(what, kind, **given):
 def build(blocks, constants=(), n=None):
     """The call build; constants are floats, or whole numbers for bits as they stand."""
     flat = [number for one in blocks for number in one]
-    doubles = [c if isinstance(c, int) else bits(c) for c in constants]
+    doubles = patterns(*constants)
     return [1, len(blocks) if n is None else n, len(flat), *flat, len(doubles), *doubles]
+
+
+def every_row(kind):
+    """A block of each row in the kind, behind sensors; its constants' bits."""
+    constants = [0.37, 0.0, -0.5, 0.5, 1.0, 3.7, 0.9, -0.3, 0.2, -2.0, -1.0, 0.5, 4.0, 2.0, 0.3]
+    blocks = [block(0, kind, a=0, b=4, q=0, r=1), block(0, kind, a=1, b=4, q=0, r=1)]
+    own = {1: {"p": 5}, 15: {"p": 2, "q": 3}, 22: {"p": 2, "q": 3}, 18: {"p": 0}, 19: {"p": 0, "q": 2, "r": 5},
+           31: {"p": 0, "q": 14, "r": 8}, 33: {"p": 0, "q": 3}, 30: {"p": 4}, 34: {"b": 3, "p": 9}, 35: {"p": 0},
+           36: {"b": 8, "c": 5, "p": 1}, 0: {"a": 2, "b": 5, "q": 0, "r": 1}, 32: {"a": 22}}
+    for what in range(40):
+        blocks.append(block(what, kind, **{"a": 0, "b": 1, "c": 2, "p": 0, "q": 3, "r": 4, **own.get(what, {})}))
+    return blocks, [bits(x) for x in constants]
 
 
 def fleet(n):
@@ -63,6 +86,31 @@ def tick(records, n=None):
 def run(craft, records, n=None):
     flat = [byte for one in records for byte in one]
     return [5, craft, len(records) if n is None else n, len(flat), *flat]
+
+
+def signal(craft, number):
+    return [6, craft, number]
+
+
+def seen(craft, number):
+    return [7, craft, number]
+
+
+def state(craft, n):
+    return [8, craft, n]
+
+
+def put(craft, values, n=None):
+    """The call put; values are signal, s, t of each block, floats or bits as they stand."""
+    return [9, craft, len(values) // 3 if n is None else n, len(values), *patterns(*values)]
+
+
+def round_call(kind, op, x=0.0, y=0.0, z=0.0):
+    return [10, kind, op, *patterns(x, y, z)]
+
+
+def whole_call(kind, how, width, x):
+    return [11, kind, how, width, pattern(x)]
 
 
 def answered(*calls):

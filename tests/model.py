@@ -13,6 +13,16 @@ def double_of(pattern):
     return struct.unpack("<d", struct.pack("<Q", pattern))[0]
 
 
+def finite(pattern):
+    return math.isfinite(double_of(pattern))
+
+
+def bits_of(x):
+    """The 64 bits of a fraction that is a double."""
+    assert Fraction(float(x)) == x
+    return bits(float(x))
+
+
 def as_float(x):
     """The double next to a fraction, the greatest for what's past it."""
     if abs(x) >= TOP[2]:
@@ -127,12 +137,37 @@ class Model:
         self.signal = [Fraction(0)] * len(blocks)
         self.s = [Fraction(0)] * len(blocks)
         self.t = [Fraction(0)] * len(blocks)
+        self.behind = []
 
     def tick(self, came):
         self.came, self.goes = came, [0] * 256
         for i, numbers in enumerate(self.blocks):
             self.signal[i] = self.step(i, numbers[0], numbers[1], letters_of(numbers))
+        self.behind.append(list(self.signal))
         return self.goes
+
+    def seen(self, i):
+        """The block's least signal and its greatest, as bits."""
+        signals = [one[i] for one in self.behind]
+        return [bits_of(min(signals)), bits_of(max(signals))]
+
+    def state(self):
+        """Each block's signal, s and t, as bits."""
+        return [bits_of(x) for i in range(len(self.blocks)) for x in (self.signal[i], self.s[i], self.t[i])]
+
+    def put(self, state):
+        """Whether these bits are as told; if so they're taken."""
+        if not all(map(finite, state)):
+            return False
+        numbers = [Fraction(double_of(one)) for one in state]
+        for i, (what, kind, *rest) in enumerate(self.blocks):
+            if any(rounded(kind, x) != x for x in numbers[3 * i:3 * i + 3]):
+                return False
+            if what == 22 and numbers[3 * i] not in (0, 1) or what == 33 and numbers[3 * i + 1] < 0:
+                return False
+        self.signal, self.s, self.t = numbers[::3], numbers[1::3], numbers[2::3]
+        self.behind = []
+        return True
 
     def step(self, i, what, kind, given):
         def near(x):

@@ -3,8 +3,8 @@
 import struct
 import unittest
 
-from lines import ABOVE_RANGE, BELOW_RANGE, DOUBLE, GREATEST, HALF, INFINITE, KINDS, LEAST, NEXT, NO_NUMBER, OPEN
-from lines import SINGLE, answered, block, build
+from lines import ABOVE_RANGE, BELOW_RANGE, DOUBLE, GREATEST, HALF, INFINITE, KINDS, LEAST, NEXT, NOT_FINITE, OPEN
+from lines import SIGN, SINGLE, answered, block, build
 
 # By row: what's given. The letters of one group are numbers of blocks, those of the other numbers of constants.
 ROWS = {
@@ -243,8 +243,7 @@ class CurveTest(Told):
 class FiniteTest(unittest.TestCase):
 
     def test_constants_that_are_not_finite(self):
-        sign = 1 << 63
-        for wrong in (INFINITE, INFINITE + sign, NO_NUMBER, NO_NUMBER + sign, (1 << 64) - 1, sign - 1, 0x7FF8 << 48):
+        for wrong in NOT_FINITE:
             for place in (0, 1, 255):
                 constants = [0] * 256
                 constants[place] = wrong
@@ -252,7 +251,7 @@ class FiniteTest(unittest.TestCase):
                 self.assertEqual([-5], told[1])
 
     def test_constants_that_are_finite(self):
-        for right in (0, 1, 1 << 63, INFINITE - 1, (1 << 63) + INFINITE - 1, (1 << 52) - 1, 1 << 52):
+        for right in (0, 1, SIGN, INFINITE - 1, SIGN + INFINITE - 1, (1 << 52) - 1, 1 << 52):
             self.assertEqual([1], answered(OPEN, build([block(1, HALF, p=0)], [right]))[1])
         self.assertEqual(INFINITE - 1, struct.unpack("<Q", struct.pack("<d", GREATEST[DOUBLE]))[0])
 

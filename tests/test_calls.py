@@ -1,9 +1,9 @@
-"""open, build, fleet, reset, tick, run: their numbers, their refusals, and what these leave as it was."""
+"""The calls' list of answers; open, build, fleet, reset, tick, run: their numbers, their refusals, what stays."""
 
 import unittest
 
-from lines import ABOVE_RANGE, BELOW_RANGE, DOUBLE, INFINITE, NO_NUMBER, OPEN, answered, block, build, fleet
-from lines import record, records_of, reset, run, tick
+from lines import ABOVE_RANGE, BELOW_RANGE, DOUBLE, INFINITE, NO_NUMBER, OPEN, answered, bits, block, build, fleet, put
+from lines import record, records_of, reset, round_call, run, seen, signal, state, tick, whole_call
 from courseheld.helm import answers
 
 OUT_OF_RANGE, NO_SCHEME, NOT_AS_TOLD = [-2], [-3], [-5]
@@ -18,6 +18,8 @@ BY_TWOS = build([block(1, DOUBLE, p=3), block(19, DOUBLE, a=0, p=0, q=1, r=2),
 # A scheme that's never told right: a limit's p is above its q.
 WRONG = build([block(15, DOUBLE, a=0, p=0, q=1)], [1.0, 0.0])
 EMPTY = record()
+# Two blocks that may have any state: whether something comes in, and a delay.
+ANY = build([block(27, DOUBLE, a=1, b=1), block(21, DOUBLE, a=1)])
 
 
 def counts(answer):
@@ -49,8 +51,26 @@ class AnswersTest(unittest.TestCase):
         first.clear()
         self.assertEqual(6 + 2 * 256 + 2, len(answers(calls)))
 
+    def test_the_list_of_the_other_answers(self):
+        one = build([block(1, DOUBLE, p=0)], [2.0])
+        calls = [*OPEN, *one, *one_tick(), *signal(0, 0), *seen(0, 0), *state(0, 1), *put(0, [3.0, 4.0, 5.0]),
+                 *seen(0, 0), *state(0, 1), *round_call(2, 0, 1.0, 2.0), *whole_call(2, 0, 5, -2.0), *signal(0, 96)]
+        two, three, four, five = map(bits, (2.0, 3.0, 4.0, 5.0))
+        told = [1, 0, 1, 1, 257, 1] + [0] * 256 + [2, 0, two, 3, 0, two, two, 4, 1, two, 0, 0, 1, 1, 1, -4]
+        self.assertEqual(told + [4, 1, three, four, five, 2, 0, three, 3, 0, 254, 255, 1, -2], answers(calls))
+
+    def test_what_is_put_stays_and_is_not_kept(self):
+        calls = [*OPEN, *ANY, *put(0, [-0.0, 2.0, 3.0] * 2), *one_tick(), *put(0, [1.0] * 5 + [INFINITE]), *state(0, 2),
+                 *round_call(0, 0, -0.0, 0.1), *whole_call(0, 0, 0, -0.0)]
+        before = list(calls)
+        first = answers(calls)
+        self.assertEqual(before, calls)
+        self.assertEqual(first, answers(calls))
+        self.assertEqual([1, 0, 1, 2, 7, 2] + [0] * 6, answers([*OPEN, *ANY, *state(0, 2)]))
+
     def test_only_whole_numbers(self):
-        told = answers([*OPEN, *COUNTING, *one_tick(), *tick([EMPTY])])
+        told = answers([*OPEN, *ANY, *one_tick(), *tick([EMPTY]), *signal(0, 0), *seen(0, 1), *state(0, 2),
+                        *put(0, [1.0] * 6), *state(0, 2), *round_call(1, 3, 1.0, 3.0), *whole_call(1, 0, 7, 9.0)])
         self.assertEqual({int}, {*map(type, told)})
         self.assertIs(list, type(told))
 

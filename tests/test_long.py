@@ -3,7 +3,8 @@
 import time
 import unittest
 
-from lines import DOUBLE, GREATEST, KINDS, OPEN, answered, block, build, fleet, record, reset, run, tick
+from lines import DOUBLE, GREATEST, KINDS, LEAST, OPEN, answered, block, build, fleet, put, record, reset, round_call
+from lines import run, seen, signal, state, tick, whole_call
 
 LONGEST = 16100
 # Far above what's needed, so that a slow machine passes, and far below what a slow way would take.
@@ -69,6 +70,41 @@ class LongTest(unittest.TestCase):
     def test_many_short_runs(self):
         scheme = self.scheme(30, DOUBLE, {"a": 0, "p": 0}, [0.3, 1e-300, 1e300, 0.7, 1e-9])
         self.timed(OPEN, scheme, *[run(0, self.came(1))] * 58)
+
+    def test_many_states_told_and_put(self):
+        for kind in KINDS:
+            scheme = self.scheme(30, kind, {"a": 0, "p": 0}, [0.3, 1e-300, 1e300, 0.7, 1e-9])
+            values = [GREATEST[kind], -GREATEST[kind], LEAST[kind]] * 96
+            told = self.timed(OPEN, scheme, *[put(0, values)] * 51)
+            self.assertEqual([[96]] * 51, told[2:])
+            told = self.timed(OPEN, scheme, put(0, values), *[state(0, 96)] * 97)
+            self.assertEqual(told[3:4] * 97, told[3:])
+            self.assertEqual(289, len(told[3]))
+
+    def test_put_and_run_in_turn(self):
+        for what, given in ((31, {"a": 0, "p": 0, "q": 0, "r": 1}), (33, {"a": 1, "p": 0, "q": 0}), (6, {"a": 0})):
+            scheme = self.scheme(what, DOUBLE, given, [0.3, 1e300])
+            values = [0.1, 1e-300, 1e300] * 96
+            turn = [put(0, values), run(0, self.came(1)), seen(0, 95), state(0, 96)]
+            told = self.timed(OPEN, scheme, *turn * 24)
+            self.assertEqual(told[2:6] * 24, told[2:])
+
+    def test_a_large_fleet_is_put_ticked_and_told(self):
+        scheme = self.scheme(33, DOUBLE, {"a": 0, "p": 0, "q": 0}, [0.3, 1e300])
+        told = self.timed(OPEN, fleet(50), scheme, put(49, [0.1] * 288), tick(self.came(50)), *[
+            call for craft in range(47, 50) for call in (state(craft, 96), seen(craft, 95), signal(craft, 95))])
+        self.assertEqual(told[5][1:], told[8][1:])
+        self.assertNotEqual(told[5][1:], told[11][1:])
+
+    def test_a_hundred_steps(self):
+        for kind in KINDS:
+            g, d = GREATEST[kind], LEAST[kind]
+            for op in range(9):
+                for numbers in ((g, g, -g), (g, d, d), (d, g, -g), (d, d, g)):
+                    self.timed(*[round_call(kind, op, *numbers)] * 100)
+            for width in range(8):
+                self.timed(*[whole_call(kind, 0, width, -g)] * 100)
+                self.timed(*[whole_call(kind, 2, width, d)] * 100)
 
 
 if __name__ == "__main__":
